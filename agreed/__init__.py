@@ -1,0 +1,1 @@
+"""How two come to terms: what they settle on, of what they can have together."""

@@ -1,0 +1,101 @@
+"""What two settle on, of what the corners let them have."""
+
+MOST_CORNERS = 256
+MOST_NUMBER = 1000
+
+
+def nash(k, p):
+    """Of what they can have, that of which the product of both is greatest."""
+    if not is_count(k):
+        return [-2]
+    corners = corners_of(k, p)
+    if not are_worth_a_deal(corners):
+        return [-1]
+    return [0] + greatest_product(outline_of(corners))
+
+
+def is_count(k):
+    """Whether so many corners may be told."""
+    return 1 <= k and k <= MOST_CORNERS
+
+
+def corners_of(k, p):
+    """The numbers two by two: what the first has, what the second has."""
+    return [(p[2 * place], p[2 * place + 1]) for place in range(k)]
+
+
+def are_worth_a_deal(corners):
+    """Whether no number is too great and each of the two has something in some corner."""
+    most_first = max([corner[0] for corner in corners])
+    most_second = max([corner[1] for corner in corners])
+    if most_first > MOST_NUMBER or most_second > MOST_NUMBER:
+        return False
+    return most_first > 0 and most_second > 0
+
+
+def outline_of(corners):
+    """The corners at which what can't be bettered for both bends or ends, from the second's best to the first's.
+
+    From one to the next the first has more and the second less, at an ever steeper price.
+    """
+    outline = []
+    for corner in sorted(corners):
+        while is_last_needless(outline, corner):
+            outline.pop()
+        outline.append(corner)
+    return outline
+
+
+def is_last_needless(outline, corner):
+    """Whether the outline's last adds nothing once the corner, which gives the first no less, is there."""
+    if len(outline) == 0:
+        return False
+    last = outline[-1]
+    if last[1] <= corner[1]:
+        return True
+    if len(outline) == 1:
+        return False
+    return is_within(outline[-2], last, corner)
+
+
+def is_within(left, middle, right):
+    """Whether the middle one is on the line from left to right, or on that side of it where both have less."""
+    run = right[0] - left[0]
+    rise = right[1] - left[1]
+    return (middle[1] - left[1]) * run <= rise * (middle[0] - left[0])
+
+
+def greatest_product(outline):
+    """What two have where, along the outline, the product is greatest.
+
+    The outline bends one way only, so the product rises up to one place and falls behind it.
+    """
+    for place in range(len(outline) - 1):
+        left = outline[place]
+        right = outline[place + 1]
+        run = right[0] - left[0]
+        fall = left[1] - right[1]
+        # All of this part's line has fall * first + run * second = reach,
+        # and its product is greatest where each of the two terms is half of reach.
+        reach = fall * left[0] + run * left[1]
+        if reach <= 2 * fall * left[0]:
+            return fraction(left[0], 1) + fraction(left[1], 1)
+        if reach < 2 * fall * right[0]:
+            return fraction(reach, 2 * fall) + fraction(reach, 2 * run)
+    last = outline[-1]
+    return fraction(last[0], 1) + fraction(last[1], 1)
+
+
+def fraction(upper, lower):
+    """The two numbers that tell upper over lower, without a common divisor."""
+    divisor = common_divisor(upper, lower)
+    return [upper // divisor, lower // divisor]
+
+
+def common_divisor(one, other):
+    """The greatest number that divides both, of which the other is not 0."""
+    while other != 0:
+        rest = one % other
+        one = other
+        other = rest
+    return one

@@ -1,0 +1,83 @@
+"""A slow and plain reckoning of the document's words, by another way than the program's.
+
+It builds no outline: it tries every two corners, in Python's own fractions.
+"""
+
+from fractions import Fraction
+
+
+def corners_of(p):
+    return list(zip(p[0::2], p[1::2]))
+
+
+def mixture(one, other, part):
+    return (one[0] + part * (other[0] - one[0]), one[1] + part * (other[1] - one[1]))
+
+
+def best_parts(one, other):
+    """The parts of the other at which the product of a mixture of two may be greatest."""
+    parts = [Fraction(0), Fraction(1)]
+    wide = other[0] - one[0]
+    high = other[1] - one[1]
+    if wide * high != 0:
+        level = Fraction(-(wide * one[1] + high * one[0]), 2 * wide * high)
+        if 0 <= level <= 1:
+            parts.append(level)
+    return parts
+
+
+def nash_by_pairs(p):
+    """The greatest product: what can't be bettered for both is a mixture of two corners at most."""
+    corners = corners_of(p)
+    best = (Fraction(0), Fraction(0))
+    for one in corners:
+        for other in corners:
+            for part in best_parts(one, other):
+                had = mixture(one, other, part)
+                if had[0] * had[1] > best[0] * best[1]:
+                    best = had
+    return told(best)
+
+
+def told(had):
+    first = Fraction(had[0])
+    second = Fraction(had[1])
+    return [first.numerator, first.denominator, second.numerator, second.denominator]
+
+
+def can_be_had(p, had):
+    """Whether some mixture of two corners gives each of the two no less than that, and that is no less than nothing."""
+    if had[0] < 0 or had[1] < 0:
+        return False
+    corners = corners_of(p)
+    return any(a_mixture_reaches(one, other, had) for one in corners for other in corners)
+
+
+def a_mixture_reaches(one, other, had):
+    least = Fraction(0)
+    most = Fraction(1)
+    for who in (0, 1):
+        step = other[who] - one[who]
+        missing = had[who] - one[who]
+        if step > 0:
+            least = max(least, Fraction(missing) / step)
+        elif step < 0:
+            most = min(most, Fraction(missing) / step)
+        elif missing > 0:
+            return False
+    return least <= most
+
+
+def thirds_and_such(p, pieces):
+    """Every mixture of any three corners with parts that are so many pieces of one."""
+    corners = corners_of(p)
+    for one in corners:
+        for two in corners:
+            for three in corners:
+                for a in range(pieces + 1):
+                    for b in range(pieces + 1 - a):
+                        c = pieces - a - b
+                        yield (
+                            Fraction(a * one[0] + b * two[0] + c * three[0], pieces),
+                            Fraction(a * one[1] + b * two[1] + c * three[1], pieces),
+                        )
