@@ -6,12 +6,27 @@ MOST_NUMBER = 1000
 
 def nash(k, p):
     """Of what they can have, that of which the product of both is greatest."""
+    refusal = refusal_of(k, p)
+    if refusal != 0:
+        return [refusal]
+    return [0] + greatest_product(outline_of(corners_of(k, p)))
+
+
+def part(k, p):
+    """Of what gives each the same part of the most that they could have alone, that of which the part is greatest."""
+    refusal = refusal_of(k, p)
+    if refusal != 0:
+        return [refusal]
+    return [0] + greatest_part(outline_of(corners_of(k, p)))
+
+
+def refusal_of(k, p):
+    """The number of the refusal, or 0 if there is something to settle."""
     if not is_count(k):
-        return [-2]
-    corners = corners_of(k, p)
-    if not are_worth_a_deal(corners):
-        return [-1]
-    return [0] + greatest_product(outline_of(corners))
+        return -2
+    if not are_worth_a_deal(corners_of(k, p)):
+        return -1
+    return 0
 
 
 def is_count(k):
@@ -65,6 +80,13 @@ def is_within(left, middle, right):
     return (middle[1] - left[1]) * run <= rise * (middle[0] - left[0])
 
 
+def line_through(left, right):
+    """The numbers fall, run and reach of the line from left to right: fall * first + run * second = reach."""
+    fall = left[1] - right[1]
+    run = right[0] - left[0]
+    return (fall, run, fall * left[0] + run * left[1])
+
+
 def greatest_product(outline):
     """What two have where, along the outline, the product is greatest.
 
@@ -73,17 +95,37 @@ def greatest_product(outline):
     for place in range(len(outline) - 1):
         left = outline[place]
         right = outline[place + 1]
-        run = right[0] - left[0]
-        fall = left[1] - right[1]
-        # All of this part's line has fall * first + run * second = reach,
-        # and its product is greatest where each of the two terms is half of reach.
-        reach = fall * left[0] + run * left[1]
+        line = line_through(left, right)
+        fall = line[0]
+        run = line[1]
+        reach = line[2]
+        # The line's product is greatest where each of the two terms that make reach is half of it.
         if reach <= 2 * fall * left[0]:
             return fraction(left[0], 1) + fraction(left[1], 1)
         if reach < 2 * fall * right[0]:
             return fraction(reach, 2 * fall) + fraction(reach, 2 * run)
     last = outline[-1]
     return fraction(last[0], 1) + fraction(last[1], 1)
+
+
+def greatest_part(outline):
+    """What two have where, along the outline, each has the same part of the most that they could have alone.
+
+    The first's part grows until it is all and the second's falls from all, so there is just one such place.
+    """
+    most_first = outline[-1][0]
+    most_second = outline[0][1]
+    for place in range(len(outline) - 1):
+        left = outline[place]
+        right = outline[place + 1]
+        if right[0] * most_second >= right[1] * most_first:
+            line = line_through(left, right)
+            reach = line[2]
+            # With all of both mosts the line's sum would be whole, so the part that makes it reach is reach over whole.
+            whole = line[0] * most_first + line[1] * most_second
+            return fraction(reach * most_first, whole) + fraction(reach * most_second, whole)
+    # An outline of one corner alone gives each their most at once.
+    return fraction(most_first, 1) + fraction(most_second, 1)
 
 
 def fraction(upper, lower):

@@ -39,6 +39,38 @@ def nash_by_pairs(p):
     return told(best)
 
 
+def even_parts(one, other, most):
+    """The parts of the other at which the lesser part of their most, in a mixture of two, may be greatest."""
+    parts = [Fraction(0), Fraction(1)]
+    turn = (other[0] - one[0]) * most[1] - (other[1] - one[1]) * most[0]
+    if turn != 0:
+        even = Fraction(one[1] * most[0] - one[0] * most[1], turn)
+        if 0 <= even <= 1:
+            parts.append(even)
+    return parts
+
+
+def mosts(p):
+    return max(p[0::2]), max(p[1::2])
+
+
+def of_their_most(had, most):
+    """The part of their most that each of the two has at least."""
+    return min(Fraction(had[0]) / most[0], Fraction(had[1]) / most[1])
+
+
+def part_by_pairs(p):
+    """The greatest same part: who has more of their most than the other may have less of it, down to the same."""
+    corners = corners_of(p)
+    most = mosts(p)
+    best = Fraction(0)
+    for one in corners:
+        for other in corners:
+            for part in even_parts(one, other, most):
+                best = max(best, of_their_most(mixture(one, other, part), most))
+    return told((best * most[0], best * most[1]))
+
+
 def told(had):
     first = Fraction(had[0])
     second = Fraction(had[1])
@@ -66,6 +98,26 @@ def a_mixture_reaches(one, other, had):
         elif missing > 0:
             return False
     return least <= most
+
+
+def nothing_is_better_for_both(p, had):
+    """Whether at some price of what the first has, in what the second has, no corner is worth more than that.
+
+    Then no mixture is worth more either, and what's better for both would be.
+    """
+    least = Fraction(0)
+    most = None
+    for first, second in corners_of(p):
+        more = first - had[0]
+        less = had[1] - second
+        if more > 0:
+            bound = Fraction(less) / more
+            most = bound if most is None else min(most, bound)
+        elif more < 0:
+            least = max(least, Fraction(less) / more)
+        elif less < 0:
+            return False
+    return most is None or least <= most
 
 
 def thirds_and_such(p, pieces):

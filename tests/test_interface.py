@@ -8,7 +8,8 @@ import sys
 import unittest
 from unittest import mock
 
-from agreed.terms import nash
+from agreed.terms import nash, part
+from tests.sample_corners import flat, many_bends
 
 CALLS = (
     (nash, (2, [6, 0, 0, 4])),
@@ -17,6 +18,12 @@ CALLS = (
     (nash, (1, [1001, 4])),
     (nash, (2, [0, 4, 0, 1])),
     (nash, (0, [])),
+    (part, (2, [4, 1, 0, 3])),
+    (part, (3, [9, 2, 0, 6, 3, 5])),
+    (part, (1, [3, 4])),
+    (part, (1, [1001, 4])),
+    (part, (2, [0, 4, 0, 1])),
+    (part, (0, [])),
 )
 
 
@@ -37,10 +44,12 @@ def kept(args):
 
 class Interface(unittest.TestCase):
     def test_parameters(self):
-        self.assertEqual(list(inspect.signature(nash).parameters), ["k", "p"])
+        for call in (nash, part):
+            self.assertEqual(list(inspect.signature(call).parameters), ["k", "p"])
 
     def test_by_name(self):
         self.assertEqual(nash(k=2, p=[6, 0, 0, 4]), [0, 3, 1, 2, 1])
+        self.assertEqual(part(k=2, p=[2, 0, 0, 1]), [0, 1, 1, 1, 2])
 
     def test_gives_back_a_list_of_whole_numbers(self):
         for call, args in CALLS:
@@ -81,14 +90,18 @@ class Interface(unittest.TestCase):
         self.assertEqual(heard.getvalue(), "")
 
     def test_long_input_is_gone_through_by_loops(self):
-        p = [number for place in range(256) for number in (place, 255 - place)]
+        row = flat((place, 255 - place) for place in range(256))
+        bends = flat(many_bends())
+        wanted = [call(len(p) // 2, p) for call in (nash, part) for p in (row, bends)]
         limit = sys.getrecursionlimit()
         sys.setrecursionlimit(len(inspect.stack()) + 40)
         try:
-            answer = nash(256, p)
+            answers = [call(len(p) // 2, p) for call in (nash, part) for p in (row, bends)]
         finally:
             sys.setrecursionlimit(limit)
-        self.assertEqual(answer, [0, 255, 2, 255, 2])
+        self.assertEqual(answers, wanted)
+        self.assertEqual(answers[0], [0, 255, 2, 255, 2])
+        self.assertEqual(answers[2], [0, 255, 2, 255, 2])
 
 
 if __name__ == "__main__":

@@ -2,33 +2,15 @@
 
 import random
 import unittest
-from fractions import Fraction
-from math import gcd
 
 from agreed.terms import nash
+from tests.against_plain import AgainstPlain
 from tests.plain_reckoning import can_be_had, corners_of, nash_by_pairs, thirds_and_such
+from tests.sample_corners import check_form, drawn, flat, had_by, many_bends, most_corners_with_many_bends
 
 
 def nash_of(*corners):
-    return nash(len(corners), [number for corner in corners for number in corner])
-
-
-def drawn(source, most_corners, most_number):
-    """Corners drawn at will, such that each of the two has something in one of them."""
-    while True:
-        k = source.randint(1, most_corners)
-        p = [source.randint(0, most_number) for place in range(2 * k)]
-        if any(p[0::2]) and any(p[1::2]):
-            return k, p
-
-
-def many_bends():
-    """Corners each of which stands out: from one to the next by all small steps, the steepest last."""
-    steps = [(run, fall) for run in range(1, 20) for fall in range(1, 20) if run + fall < 21 and gcd(run, fall) == 1]
-    corners = [(0, 1000)]
-    for run, fall in sorted(steps, key=lambda step: Fraction(step[1], step[0])):
-        corners.append((corners[-1][0] + run, corners[-1][1] - fall))
-    return corners
+    return nash(len(corners), flat(corners))
 
 
 class Ordinary(unittest.TestCase):
@@ -81,11 +63,8 @@ class Edges(unittest.TestCase):
         self.assertEqual(nash(256, [6, 0] + [0, 0] * 254 + [0, 4]), [0, 3, 1, 2, 1])
 
     def test_most_corners_with_very_many_bends(self):
-        bends = many_bends()
-        self.assertGreater(len(bends), 100)
-        corners = bends + [(0, place) for place in range(256 - len(bends))]
-        random.Random(12).shuffle(corners)
-        p = [number for corner in corners for number in corner]
+        self.assertGreater(len(many_bends()), 100)
+        p = most_corners_with_many_bends(random.Random(12))
         self.assertEqual(nash(256, p), [0] + nash_by_pairs(p))
 
     def test_least_and_most_numbers(self):
@@ -125,59 +104,20 @@ class Edges(unittest.TestCase):
         self.assertEqual(nash_of((7, 0), (0, 0), (0, 1)), [0, 7, 2, 1, 2])
 
 
-class AgainstThePlainReckoning(unittest.TestCase):
-    def check(self, k, p):
-        answer = nash(k, p)
-        self.assertEqual(answer, [0] + nash_by_pairs(p), (k, p))
-        self.check_form(answer)
+class AgainstThePlainReckoning(AgainstPlain, unittest.TestCase):
+    def answer(self, k, p):
+        return nash(k, p)
 
-    def check_form(self, answer):
-        self.assertEqual(len(answer), 5)
-        for number in answer:
-            self.assertIs(type(number), int)
-        for upper, lower in (answer[1:3], answer[3:5]):
-            self.assertGreater(lower, 0)
-            self.assertEqual(gcd(upper, lower), 1)
-
-    def test_every_two_small_corners(self):
-        for code in range(6 ** 4):
-            p = [code // 6 ** place % 6 for place in range(4)]
-            if any(p[0::2]) and any(p[1::2]):
-                self.check(2, p)
-
-    def test_every_three_tiny_corners(self):
-        for code in range(4 ** 6):
-            p = [code // 4 ** place % 4 for place in range(6)]
-            if any(p[0::2]) and any(p[1::2]):
-                self.check(3, p)
-
-    def test_many_small_drawn(self):
-        source = random.Random(1)
-        for turn in range(3000):
-            self.check(*drawn(source, 7, 12))
-
-    def test_many_drawn_up_to_the_most(self):
-        source = random.Random(2)
-        for turn in range(1500):
-            self.check(*drawn(source, 9, 1000))
-
-    def test_drawn_near_a_bend(self):
-        source = random.Random(3)
-        for turn in range(300):
-            k = source.randint(3, 12)
-            firsts = [source.randint(0, 1000) for place in range(k)]
-            p = [number for first in firsts for number in (first, int((10 ** 6 - first * first) ** 0.5))]
-            if any(p[0::2]) and any(p[1::2]):
-                self.check(k, p)
+    def plain(self, p):
+        return nash_by_pairs(p)
 
     def test_no_mixture_of_three_is_better(self):
         source = random.Random(4)
         for turn in range(40):
             k, p = drawn(source, 4, 9)
-            answer = nash(k, p)
-            product = Fraction(answer[1], answer[2]) * Fraction(answer[3], answer[4])
+            first, second = had_by(nash(k, p))
             for had in thirds_and_such(p, 6):
-                self.assertLessEqual(had[0] * had[1], product, (k, p))
+                self.assertLessEqual(had[0] * had[1], first * second, (k, p))
 
     def test_can_be_had_and_nothing_is_better_with_most_corners(self):
         # If u / first + v / second is at most 2 for every corner, it is so for every mixture,
@@ -186,38 +126,11 @@ class AgainstThePlainReckoning(unittest.TestCase):
         for turn in range(20):
             p = [source.randint(0, 1000) for place in range(512)]
             answer = nash(256, p)
-            self.check_form(answer)
-            first = Fraction(answer[1], answer[2])
-            second = Fraction(answer[3], answer[4])
+            check_form(self, answer)
+            first, second = had_by(answer)
             self.assertTrue(can_be_had(p, (first, second)))
             for u, v in corners_of(p):
                 self.assertLessEqual(u * second + v * first, 2 * first * second)
-
-
-class Refusals(unittest.TestCase):
-    def test_wrong_count(self):
-        for k in (0, -1, 257, -2147483648, 2147483647):
-            self.assertEqual(nash(k, []), [-2])
-
-    def test_number_above_the_most(self):
-        for number in (1001, 65535):
-            self.assertEqual(nash_of((number, 1)), [-1])
-            self.assertEqual(nash_of((1, number)), [-1])
-            self.assertEqual(nash_of((5, 5), (0, 0), (number, 0)), [-1])
-            self.assertEqual(nash_of((0, number), (5, 5), (6, 6)), [-1])
-            self.assertEqual(nash(256, [5, 5] * 255 + [5, number]), [-1])
-
-    def test_nothing_for_the_first(self):
-        self.assertEqual(nash_of((0, 3)), [-1])
-        self.assertEqual(nash_of((0, 3), (0, 7), (0, 0)), [-1])
-
-    def test_nothing_for_the_second(self):
-        self.assertEqual(nash_of((3, 0)), [-1])
-        self.assertEqual(nash_of((3, 0), (7, 0), (0, 0)), [-1])
-
-    def test_nothing_for_both(self):
-        self.assertEqual(nash_of((0, 0)), [-1])
-        self.assertEqual(nash(256, [0, 0] * 256), [-1])
 
 
 if __name__ == "__main__":
