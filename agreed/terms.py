@@ -17,7 +17,18 @@ def part(k, p):
     refusal = refusal_of(k, p)
     if refusal != 0:
         return [refusal]
-    return [0] + greatest_part(outline_of(corners_of(k, p)))
+    outline = outline_of(corners_of(k, p))
+    most_first = outline[-1][0]
+    most_second = outline[0][1]
+    return [0] + greatest_in_shares(edge_of(outline), most_first, most_second)
+
+
+def same(k, p):
+    """Of what gives both the same, the greatest."""
+    refusal = refusal_of(k, p)
+    if refusal != 0:
+        return [refusal]
+    return [0] + greatest_in_shares(edge_of(outline_of(corners_of(k, p))), 1, 1)
 
 
 def refusal_of(k, p):
@@ -80,6 +91,15 @@ def is_within(left, middle, right):
     return (middle[1] - left[1]) * run <= rise * (middle[0] - left[0])
 
 
+def edge_of(outline):
+    """The outline with its two ends drawn out to where the first has nothing and where the second has nothing.
+
+    On what is drawn out one of them has their most, so nothing is better for both there either. Where an end has
+    nothing for one of the two already, it stands twice.
+    """
+    return [(0, outline[0][1])] + outline + [(outline[-1][0], 0)]
+
+
 def line_through(left, right):
     """The numbers fall, run and reach of the line from left to right: fall * first + run * second = reach."""
     fall = left[1] - right[1]
@@ -108,24 +128,19 @@ def greatest_product(outline):
     return fraction(last[0], 1) + fraction(last[1], 1)
 
 
-def greatest_part(outline):
-    """What two have where, along the outline, each has the same part of the most that they could have alone.
+def greatest_in_shares(edge, first_share, second_share):
+    """What two have where, along the edge, what they have is to one another as their shares are.
 
-    The first's part grows until it is all and the second's falls from all, so there is just one such place.
+    Along the edge the first's grows from nothing and the second's falls to nothing, so there is just one such place.
     """
-    most_first = outline[-1][0]
-    most_second = outline[0][1]
-    for place in range(len(outline) - 1):
-        left = outline[place]
-        right = outline[place + 1]
-        if right[0] * most_second >= right[1] * most_first:
-            line = line_through(left, right)
-            reach = line[2]
-            # With all of both mosts the line's sum would be whole, so the part that makes it reach is reach over whole.
-            whole = line[0] * most_first + line[1] * most_second
-            return fraction(reach * most_first, whole) + fraction(reach * most_second, whole)
-    # An outline of one corner alone gives each their most at once.
-    return fraction(most_first, 1) + fraction(most_second, 1)
+    place = 1
+    while edge[place][0] * second_share < edge[place][1] * first_share:
+        place = place + 1
+    line = line_through(edge[place - 1], edge[place])
+    reach = line[2]
+    # With the shares themselves the line's sum would be whole, so what makes it reach is reach over whole of them.
+    whole = line[0] * first_share + line[1] * second_share
+    return fraction(reach * first_share, whole) + fraction(reach * second_share, whole)
 
 
 def fraction(upper, lower):

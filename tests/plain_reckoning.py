@@ -39,12 +39,12 @@ def nash_by_pairs(p):
     return told(best)
 
 
-def even_parts(one, other, most):
-    """The parts of the other at which the lesser part of their most, in a mixture of two, may be greatest."""
+def even_parts(one, other, wish):
+    """The parts of the other at which the lesser part of a wish, in a mixture of two, may be greatest."""
     parts = [Fraction(0), Fraction(1)]
-    turn = (other[0] - one[0]) * most[1] - (other[1] - one[1]) * most[0]
+    turn = (other[0] - one[0]) * wish[1] - (other[1] - one[1]) * wish[0]
     if turn != 0:
-        even = Fraction(one[1] * most[0] - one[0] * most[1], turn)
+        even = Fraction(one[1] * wish[0] - one[0] * wish[1], turn)
         if 0 <= even <= 1:
             parts.append(even)
     return parts
@@ -54,21 +54,28 @@ def mosts(p):
     return max(p[0::2]), max(p[1::2])
 
 
-def of_their_most(had, most):
-    """The part of their most that each of the two has at least."""
-    return min(Fraction(had[0]) / most[0], Fraction(had[1]) / most[1])
+def of_a_wish(had, wish):
+    """The part of what they wish for that each of the two has at least."""
+    return min(Fraction(had[0]) / wish[0], Fraction(had[1]) / wish[1])
 
 
-def part_by_pairs(p):
-    """The greatest same part: who has more of their most than the other may have less of it, down to the same."""
+def greatest_of_a_wish(p, wish):
+    """The greatest part that both can have of a wish: who has a greater one may have less, down to the same."""
     corners = corners_of(p)
-    most = mosts(p)
     best = Fraction(0)
     for one in corners:
         for other in corners:
-            for part in even_parts(one, other, most):
-                best = max(best, of_their_most(mixture(one, other, part), most))
-    return told((best * most[0], best * most[1]))
+            for part in even_parts(one, other, wish):
+                best = max(best, of_a_wish(mixture(one, other, part), wish))
+    return told((best * wish[0], best * wish[1]))
+
+
+def part_by_pairs(p):
+    return greatest_of_a_wish(p, mosts(p))
+
+
+def same_by_pairs(p):
+    return greatest_of_a_wish(p, (1, 1))
 
 
 def told(had):
@@ -103,8 +110,11 @@ def a_mixture_reaches(one, other, had):
 def nothing_is_better_for_both(p, had):
     """Whether at some price of what the first has, in what the second has, no corner is worth more than that.
 
-    Then no mixture is worth more either, and what's better for both would be.
+    Then no mixture is worth more either, and what's better for both would be. Who has their most can't have better,
+    which for the first would be a price without end.
     """
+    if had[0] >= mosts(p)[0]:
+        return True
     least = Fraction(0)
     most = None
     for first, second in corners_of(p):

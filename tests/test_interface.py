@@ -8,7 +8,7 @@ import sys
 import unittest
 from unittest import mock
 
-from agreed.terms import nash, part
+from agreed.terms import nash, part, same
 from tests.sample_corners import flat, many_bends
 
 CALLS = (
@@ -24,6 +24,12 @@ CALLS = (
     (part, (1, [1001, 4])),
     (part, (2, [0, 4, 0, 1])),
     (part, (0, [])),
+    (same, (2, [4, 1, 0, 3])),
+    (same, (3, [9, 2, 0, 6, 3, 5])),
+    (same, (1, [3, 4])),
+    (same, (1, [1001, 4])),
+    (same, (2, [0, 4, 0, 1])),
+    (same, (0, [])),
 )
 
 
@@ -44,12 +50,13 @@ def kept(args):
 
 class Interface(unittest.TestCase):
     def test_parameters(self):
-        for call in (nash, part):
+        for call in (nash, part, same):
             self.assertEqual(list(inspect.signature(call).parameters), ["k", "p"])
 
     def test_by_name(self):
         self.assertEqual(nash(k=2, p=[6, 0, 0, 4]), [0, 3, 1, 2, 1])
         self.assertEqual(part(k=2, p=[2, 0, 0, 1]), [0, 1, 1, 1, 2])
+        self.assertEqual(same(k=2, p=[2, 0, 0, 1]), [0, 2, 3, 2, 3])
 
     def test_gives_back_a_list_of_whole_numbers(self):
         for call, args in CALLS:
@@ -92,16 +99,16 @@ class Interface(unittest.TestCase):
     def test_long_input_is_gone_through_by_loops(self):
         row = flat((place, 255 - place) for place in range(256))
         bends = flat(many_bends())
-        wanted = [call(len(p) // 2, p) for call in (nash, part) for p in (row, bends)]
+        wanted = [call(len(p) // 2, p) for call in (nash, part, same) for p in (row, bends)]
         limit = sys.getrecursionlimit()
         sys.setrecursionlimit(len(inspect.stack()) + 40)
         try:
-            answers = [call(len(p) // 2, p) for call in (nash, part) for p in (row, bends)]
+            answers = [call(len(p) // 2, p) for call in (nash, part, same) for p in (row, bends)]
         finally:
             sys.setrecursionlimit(limit)
         self.assertEqual(answers, wanted)
-        self.assertEqual(answers[0], [0, 255, 2, 255, 2])
-        self.assertEqual(answers[2], [0, 255, 2, 255, 2])
+        for answer in answers[0::2]:
+            self.assertEqual(answer, [0, 255, 2, 255, 2])
 
 
 if __name__ == "__main__":

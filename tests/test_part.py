@@ -6,7 +6,7 @@ import unittest
 from agreed.terms import part
 from tests.against_plain import AgainstPlain
 from tests.plain_reckoning import (
-    can_be_had, mosts, nothing_is_better_for_both, of_their_most, part_by_pairs, thirds_and_such,
+    can_be_had, mosts, nothing_is_better_for_both, of_a_wish, part_by_pairs, thirds_and_such,
 )
 from tests.sample_corners import check_form, drawn, flat, had_by, most_corners_with_many_bends
 
@@ -136,9 +136,9 @@ class AgainstThePlainReckoning(AgainstPlain, unittest.TestCase):
         source = random.Random(26)
         for turn in range(40):
             k, p = drawn(source, 4, 9)
-            greatest = of_their_most(had_by(part(k, p)), mosts(p))
+            greatest = of_a_wish(had_by(part(k, p)), mosts(p))
             for had in thirds_and_such(p, 6):
-                self.assertLessEqual(of_their_most(had, mosts(p)), greatest, (k, p))
+                self.assertLessEqual(of_a_wish(had, mosts(p)), greatest, (k, p))
 
     def test_the_words_themselves_with_most_corners(self):
         source = random.Random(27)

@@ -1,11 +1,11 @@
-"""What nash and part refuse, each of them alike: the first rows of the promises."""
+"""What is refused, by each function alike: the first rows of the promises."""
 
 import unittest
 
-from agreed.terms import nash, part
+from agreed.terms import nash, part, same
 from tests.sample_corners import flat
 
-CALLS = (nash, part)
+CALLS = (nash, part, same)
 
 
 class Refusals(unittest.TestCase):
@@ -22,8 +22,8 @@ class Refusals(unittest.TestCase):
             self.check([-2], k, [])
 
     def test_least_and_most_count_are_taken(self):
-        self.check([0, 3, 1, 4, 1], 1, [3, 4])
-        self.check([0, 3, 1, 4, 1], 256, [3, 4] * 256)
+        self.check([0, 3, 1, 3, 1], 1, [3, 3])
+        self.check([0, 3, 1, 3, 1], 256, [3, 3] * 256)
 
     def test_number_above_the_most(self):
         for number in (1001, 65535):
