@@ -2,6 +2,7 @@
 
 MOST_CORNERS = 256
 MOST_NUMBER = 1000
+MOST_LOWER = 1000
 
 
 def nash(k, p):
@@ -29,6 +30,21 @@ def same(k, p):
     if refusal != 0:
         return [refusal]
     return [0] + greatest_in_shares(edge_of(outline_of(corners_of(k, p))), 1, 1)
+
+
+def talk(k, a, b, c, d, p):
+    """The first's offer and the second's, if waiting leaves the first a / b of an offer and the second c / d."""
+    if not is_left_by_waiting(a, b) or not is_left_by_waiting(c, d):
+        return [-2]
+    refusal = refusal_of(k, p)
+    if refusal != 0:
+        return [refusal]
+    return [0] + two_offers(edge_of(outline_of(corners_of(k, p))), a, b, c, d)
+
+
+def is_left_by_waiting(upper, lower):
+    """Whether upper / lower may be what waiting leaves of an offer: something, but not all."""
+    return 1 <= upper and upper < lower and lower <= MOST_LOWER
 
 
 def refusal_of(k, p):
@@ -141,6 +157,60 @@ def greatest_in_shares(edge, first_share, second_share):
     # With the shares themselves the line's sum would be whole, so what makes it reach is reach over whole of them.
     whole = line[0] * first_share + line[1] * second_share
     return fraction(reach * first_share, whole) + fraction(reach * second_share, whole)
+
+
+def two_offers(edge, a, b, c, d):
+    """The first's offer and the second's, both on the edge, such that neither of the two gains by waiting.
+
+    The first's in the one times a is the first's in the other times b, and the second's in the one times d is the
+    second's in the other times c. So both offers are at the one place where the edge drawn larger by a and d meets
+    the edge drawn larger by b and c.
+    """
+    meeting = meeting_of(drawn_larger(edge, a, d), drawn_larger(edge, b, c))
+    first = meeting[0]
+    second = meeting[1]
+    lower = meeting[2]
+    one = fraction(first, lower * a) + fraction(second, lower * d)
+    other = fraction(first, lower * b) + fraction(second, lower * c)
+    return one + other
+
+
+def drawn_larger(edge, first_times, second_times):
+    """The edge with the first's so many times and the second's so many times."""
+    return [(bend[0] * first_times, bend[1] * second_times) for bend in edge]
+
+
+def meeting_of(high, wide):
+    """Where an edge that starts higher meets one that ends wider: first and second, and what both are divided by."""
+    high_lines = lines_of(high)
+    wide_lines = lines_of(wide)
+    inward = 1
+    while not is_bounded(high[inward], wide_lines):
+        inward = inward + 1
+    outward = 1
+    while is_bounded(wide[outward], high_lines):
+        outward = outward + 1
+    return crossing_of(high_lines[inward - 1], wide_lines[outward - 1])
+
+
+def lines_of(edge):
+    """The lines from each bend of the edge to the next."""
+    return [line_through(edge[place - 1], edge[place]) for place in range(1, len(edge))]
+
+
+def is_bounded(bend, lines):
+    """Whether the bend is beyond none of the lines."""
+    for line in lines:
+        if line[0] * bend[0] + line[1] * bend[1] > line[2]:
+            return False
+    return True
+
+
+def crossing_of(steep, shallow):
+    """Where two lines cross, of which the one is steeper: first and second, and what both are divided by."""
+    first = steep[2] * shallow[1] - shallow[2] * steep[1]
+    second = steep[0] * shallow[2] - shallow[0] * steep[2]
+    return (first, second, steep[0] * shallow[1] - shallow[0] * steep[1])
 
 
 def fraction(upper, lower):

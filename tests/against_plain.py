@@ -1,17 +1,12 @@
-"""A way to hold a function against its plain reckoning, over every few small corners and many drawn ones."""
+"""Ways to hold a function against a plain reckoning, over every few small corners and many drawn ones."""
 
 import random
 
 from tests.sample_corners import check_form, drawn, drawn_near_a_bend, every_few
 
 
-class AgainstPlain:
-    """Stands ahead of TestCase in a class that has two methods: answer(k, p), and plain(p), which leaves out the 0."""
-
-    def check(self, k, p):
-        answer = self.answer(k, p)
-        self.assertEqual(answer, [0] + self.plain(p), (k, p))
-        check_form(self, answer)
+class OverManyCorners:
+    """Stands ahead of TestCase in a class that has a method check(k, p)."""
 
     def test_every_two_small_corners(self):
         for p in every_few(2, 6):
@@ -35,3 +30,12 @@ class AgainstPlain:
         source = random.Random(3)
         for turn in range(300):
             self.check(*drawn_near_a_bend(source))
+
+
+class AgainstPlain(OverManyCorners):
+    """Asks for two methods instead: answer(k, p), and plain(p), which leaves out the 0."""
+
+    def check(self, k, p):
+        answer = self.answer(k, p)
+        self.assertEqual(answer, [0] + self.plain(p), (k, p))
+        check_form(self, answer)

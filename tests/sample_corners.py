@@ -39,6 +39,12 @@ def drawn_near_a_bend(source):
             return k, p
 
 
+def drawn_part(source):
+    """What waiting leaves: a part of one, near nothing or near one among others, in lowest terms or not."""
+    lower = source.choice((2, 3, source.randint(2, 12), source.randint(2, 1000), 1000))
+    return source.choice((1, lower - 1, source.randint(1, lower - 1))), lower
+
+
 def many_bends():
     """Corners each of which stands out: from one to the next by all small steps, the steepest last."""
     steps = [(run, fall) for run in range(1, 20) for fall in range(1, 20) if run + fall < 21 and gcd(run, fall) == 1]
@@ -59,12 +65,17 @@ def had_by(answer):
     return Fraction(answer[1], answer[2]), Fraction(answer[3], answer[4])
 
 
-def check_form(case, answer):
-    """0 and two fractions in lowest terms, all of them plain whole numbers."""
-    case.assertEqual(len(answer), 5)
+def offered_by(answer):
+    """What two would have by the first's offer, and by the second's."""
+    return had_by(answer), had_by(answer[4:])
+
+
+def check_form(case, answer, fractions=2):
+    """0 and so many fractions in lowest terms, all of them plain whole numbers."""
+    case.assertEqual(len(answer), 1 + 2 * fractions)
     for number in answer:
         case.assertIs(type(number), int)
     case.assertEqual(answer[0], 0)
-    for upper, lower in (answer[1:3], answer[3:5]):
+    for upper, lower in zip(answer[1::2], answer[2::2]):
         case.assertGreater(lower, 0)
         case.assertEqual(gcd(upper, lower), 1)
